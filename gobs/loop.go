@@ -76,13 +76,14 @@ func (l loop) come(at place, spans []api.Span, readings api.Span) iter.Seq2[plac
 
 // next returns the set of all that may come next of a set, if the gob's reading is one of these. It may be too great.
 func (l loop) next(w weights, readings api.Span) weights {
-	next := weights{}
+	come := map[place][]api.Span{}
 	for at, spans := range w {
 		for then, s := range l.come(at, spans, readings) {
-			next[then] = append(next[then], s)
+			come[then] = append(come[then], s)
 		}
 	}
-	for at, spans := range next {
+	next := weights{}
+	for at, spans := range come {
 		next[at] = joined(spans)
 	}
 	return next
