@@ -24,9 +24,13 @@ func shareOf(p api.Period) api.Span {
 // up returns a / b, rounded up; a is at least 0, b above 0.
 func up(a, b int) int { return (a + b - 1) / b }
 
-// isExcess tells whether more is certified of a period than is surely recycled of what was packed in it. If no glass may have been charged, whatever is certified is too much, even of a lot that weighs nothing.
+// isExcess tells whether more is certified of a period than is surely recycled of what was packed in it.
 func isExcess(p api.Period) bool {
-	return p.Glass.High == 0 || isMore(p.Claimed, p.Glass.High, 1000*p.Recycled.Low, p.Packed.Low)
+	// Nothing is recycled where no glass may have been charged, but by multiplication with that glass any certificate would be covered.
+	if p.Glass.High == 0 {
+		return p.Claimed > 0
+	}
+	return isMore(p.Claimed, p.Glass.High, 1000*p.Recycled.Low, p.Packed.Low)
 }
 
 // isMore tells whether a * b is more than c * d, all being at least 0. Both may be too great for an int.

@@ -278,14 +278,24 @@ func TestMost(t *testing.T) {
 	covers(t, with(b, claim(0, 2, 334)), 6)
 }
 
-// TestMostWithoutGlass: if no glass may have been charged nothing is certified, not even of a lot that weighs nothing.
-func TestMostWithoutGlass(t *testing.T) {
+// TestWithoutGlass: if no glass may have been charged only what weighs nothing is certified, as much as may be; the first certificate of something is too much.
+func TestWithoutGlass(t *testing.T) {
 	for _, charged := range [][]api.Post{nil, {nothing(), charge(0, 0, 0, 0)}, {in(0, span(9, 9), span(0, 0), span(1000, 1000)), charge(0, 0, 9, 9)}} {
-		b := with(book(charged...), pack(0, 1, 10, 10), pack(0, 2, 0, 0), end(0))
-		for _, lot := range []int{1, 2} {
-			most(t, b, lot, 0)
-			covers(t, with(b, claim(0, lot, 1)), len(b.Posts))
+		b := with(book(charged...), pack(0, 1, 10, 10), pack(0, 2, 0, 0), pack(0, 3, 0, 1), pack(0, 4, 0, 0), end(0))
+		for lot, want := range map[int]int{1: 0, 2: 1000, 3: 0, 4: 1000} {
+			most(t, b, lot, want)
 		}
+		for _, lot := range []int{1, 3} {
+			covers(t, with(b, claim(0, lot, 1)), len(b.Posts))
+			covers(t, with(b, claim(0, 2, 1000), claim(0, lot, 1), claim(0, 4, 1)), len(b.Posts)+1)
+			// behind what is too much nothing may be certified, whatever it weighs
+			most(t, with(b, claim(0, lot, 1)), 2, 0)
+		}
+		b = with(b, claim(0, 2, 1000))
+		covers(t, b, len(b.Posts))
+		most(t, b, 1, 0)
+		most(t, b, 4, 1000)
+		covers(t, with(b, claim(0, 4, 1000)), len(b.Posts)+1)
 	}
 }
 
@@ -329,7 +339,7 @@ func isTooMuch(b api.Book, p api.Period, period, upTo int) bool {
 		}
 	}
 	if p.Glass.High == 0 {
-		return true
+		return certified.Sign() > 0
 	}
 	sure := new(big.Rat).Mul(quotient(p.Recycled.Low, 1), quotient(p.Packed.Low, 1))
 	sure.Quo(sure, quotient(p.Glass.High, 1000))
